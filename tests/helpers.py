@@ -1,0 +1,106 @@
+"""Things that several tests use; none of them calls the program."""
+
+import copy
+import itertools
+
+
+def all_partitions(size):
+    """All rows of labels of the points 0 .. size - 1, in ascending order."""
+    rows = [()]
+    for _ in range(size):
+        rows = [row + (k,) for row in rows for k in range(max(row, default=-1) + 2)]
+    return rows
+
+
+def diagram_of_row(n, m, row):
+    blocks = [
+        tuple(point for point in range(n + m) if row[point] == k)
+        for k in range(max(row, default=-1) + 1)
+    ]
+    return (n, m, tuple(blocks))
+
+
+def family_test(family, n, blocks):
+    """Tell by the words of the document if blocks are those of a family."""
+    def strand(block):
+        return len([p for p in block if p < n]) == 1 and len([p for p in block if p >= n]) == 1
+    tests = {
+        "threads": strand,
+        "loose": lambda block: strand(block) or len(block) == 1,
+        "pairs": lambda block: len(block) == 2,
+        "lonepairs": lambda block: len(block) in (1, 2),
+        "even": lambda block: len(block) % 2 == 0,
+        "parts": lambda block: True,
+    }
+    return all(tests[family](block) for block in blocks)
+
+
+def family_diagrams(family, n, m):
+    """All diagrams of a family, in order, picked out of all partitions."""
+    made = [diagram_of_row(n, m, row) for row in all_partitions(n + m)]
+    return [diagram for diagram in made if family_test(family, n, diagram[2])]
+
+
+def components(points, groups):
+    """The sets of points that the groups join, found by spreading."""
+    left = set(points)
+    found = []
+    while left:
+        piece = {left.pop()}
+        grown = True
+        while grown:
+            grown = False
+            for group in groups:
+                if piece & set(group) and not set(group) <= piece:
+                    piece |= set(group)
+                    grown = True
+        left -= piece
+        found.append(piece)
+    return found
+
+
+def named_groups(diagram, name):
+    """The blocks with points told as (name, "above" or "below", place)."""
+    n, _, blocks = diagram
+    return [
+        [(name, "above", p) if p < n else (name, "below", p - n) for p in block]
+        for block in blocks
+    ]
+
+
+def named_points(diagram, name):
+    n, m, _ = diagram
+    return [(name, "above", k) for k in range(n)] + [(name, "below", k) for k in range(m)]
+
+
+def diagram_of_components(above, below, pieces):
+    """The diagram with these named points, in order, that pieces join."""
+    order = above + below
+    blocks = []
+    for piece in pieces:
+        block = tuple(k for k, point in enumerate(order) if point in piece)
+        if block:
+            blocks.append(block)
+    return (len(above), len(below), tuple(sorted(blocks)))
+
+
+def sizes_up_to(most):
+    return [
+        (n, m) for n, m in itertools.product(range(9), range(9)) if n + m <= most
+    ]
+
+
+class Unchanged:
+    """Checks that what was handed in is afterwards as it was before."""
+
+    def __init__(self, test, *things):
+        self.test = test
+        self.things = things
+        self.before = copy.deepcopy(things)
+
+    def __enter__(self):
+        return self.things
+
+    def __exit__(self, kind, value, trace):
+        if kind is None:
+            self.test.assertEqual(self.things, self.before)

@@ -1,0 +1,165 @@
+"""Rules of the language that can be read off the files of the package."""
+
+import ast
+import pathlib
+import re
+import unittest
+
+PACKAGE = pathlib.Path(__file__).resolve().parent.parent / "threadworth"
+LIBRARY = {
+    "heapq": {"heappush", "heappop", "heapify", "heapreplace", "heappushpop"},
+    "math": {"gcd", "lcm", "isqrt", "comb", "perm", "factorial"},
+    "itertools": {
+        "product", "combinations", "permutations", "chain", "accumulate", "pairwise",
+        "islice", "zip_longest",
+    },
+    "collections": {"defaultdict"},
+}
+BUILTINS = set((
+    "len range enumerate zip min max sum abs sorted reversed int str bool bytes list tuple dict "
+    "set isinstance ord repr any all divmod map iter next Exception ValueError TypeError KeyError "
+    "IndexError LookupError ZeroDivisionError NotImplemented super"
+).split())
+METHODS = set((
+    "append clear copy count endswith extend find get index insert isalnum isalpha isdigit "
+    "islower isspace isupper items join keys ljust lower lstrip partition pop remove replace "
+    "reverse rfind rjust rpartition rsplit rstrip setdefault split splitlines startswith strip "
+    "update upper values zfill bit_length title capitalize removeprefix removesuffix isascii add"
+).split())
+BARRED = re.compile(
+    r"\b(type|typing|enum|Enum|Generic|Protocol|ABC|namedtuple|NamedTuple|register|mro|elements"
+    r"|open|input|law|eval|exec|compile|globals|locals|vars|dir|help|id|hash|chr|float)\b"
+)
+
+
+def package_files():
+    return sorted(path for path in PACKAGE.rglob("*") if "__pycache__" not in path.parts)
+
+
+def trees():
+    return [(path, ast.parse(path.read_text(encoding="utf-8"))) for path in package_files()]
+
+
+def own_names(tree):
+    """The names that a module binds at its own level."""
+    found = set()
+    for node in tree.body:
+        if isinstance(node, (ast.FunctionDef, ast.ClassDef)):
+            found.add(node.name)
+        elif isinstance(node, ast.Assign):
+            found.update(target.id for target in node.targets)
+    return found
+
+
+class LanguageTest(unittest.TestCase):
+
+    def test_the_folder_holds_python_files_alone(self):
+        self.assertIn(PACKAGE / "__init__.py", package_files())
+        for path in package_files():
+            self.assertRegex(path.name, r"\A[a-z_0-9]+\.py\Z")
+
+    def test_characters_and_lengths(self):
+        for path in package_files():
+            text = path.read_text(encoding="utf-8")
+            rows = text.split("\n")
+            self.assertLessEqual(len(rows) - 1, 399, path)
+            self.assertTrue(all(32 <= ord(sign) <= 126 for row in rows for sign in row), path)
+            self.assertTrue(all(len(row) <= 120 for row in rows), path)
+
+    def test_functions_have_at_most_40_lines(self):
+        for path, tree in trees():
+            for node in ast.walk(tree):
+                if isinstance(node, ast.FunctionDef):
+                    self.assertLessEqual(node.end_lineno - node.lineno + 1, 40, (path, node.name))
+
+    def test_imports(self):
+        for path, tree in trees():
+            for node in ast.walk(tree):
+                self.assertNotIsInstance(node, ast.Import, path)
+                if isinstance(node, ast.ImportFrom):
+                    self.assertIn(node, tree.body)
+                    self.assertEqual(node.level, 0)
+                    names = {name.name for name in node.names}
+                    self.assertTrue(all(name.asname is None for name in node.names))
+                    if node.module in LIBRARY:
+                        self.assertLessEqual(names, LIBRARY[node.module])
+                    else:
+                        folder, _, file = node.module.partition(".")
+                        self.assertEqual(folder, "threadworth")
+                        source = (PACKAGE / (file + ".py")).read_text(encoding="utf-8")
+                        self.assertLessEqual(names, own_names(ast.parse(source)))
+
+    def test_no_file_imports_in_a_circle(self):
+        imported = {
+            path.stem: {
+                node.module.partition(".")[2] for node in tree.body
+                if isinstance(node, ast.ImportFrom) and node.module.startswith("threadworth.")
+            }
+            for path, tree in trees()
+        }
+        done = set()
+        while len(done) < len(imported):
+            ready = {name for name in imported if name not in done and imported[name] <= done}
+            self.assertTrue(ready, "files import from each other")
+            done |= ready
+
+    def test_names_are_bound_once_and_do_not_hide_imports(self):
+        for path, tree in trees():
+            imports = [
+                name.name for node in tree.body if isinstance(node, ast.ImportFrom)
+                for name in node.names
+            ]
+            bound = imports + [
+                node.name for node in tree.body if isinstance(node, (ast.FunctionDef, ast.ClassDef))
+            ]
+            self.assertEqual(len(bound), len(set(bound)), path)
+            for node in ast.walk(tree):
+                if isinstance(node, ast.arg):
+                    self.assertNotIn(node.arg, set(imports) | BUILTINS, path)
+                if isinstance(node, ast.Name) and isinstance(node.ctx, ast.Store):
+                    self.assertNotIn(node.id, set(imports) | BUILTINS, path)
+
+    def test_kinds_of_statements_and_expressions(self):
+        barred = (
+            ast.Global, ast.AsyncFunctionDef, ast.AsyncFor, ast.AsyncWith, ast.Await, ast.Div,
+            ast.MatMult,
+        )
+        for path, tree in trees():
+            for node in ast.walk(tree):
+                self.assertNotIsInstance(node, barred, path)
+                if isinstance(node, ast.Constant):
+                    self.assertNotIsInstance(node.value, (float, complex), path)
+                    if isinstance(node.value, str):
+                        self.assertNotIn(chr(37), node.value, path)
+                if isinstance(node, ast.BinOp) and isinstance(node.op, ast.Pow):
+                    self.assertIsInstance(node.right, ast.Constant)
+                    self.assertTrue(0 <= node.right.value <= 64)
+
+    def test_calls(self):
+        for path, tree in trees():
+            names = own_names(tree) | BUILTINS | {
+                name.name for node in tree.body if isinstance(node, ast.ImportFrom)
+                for name in node.names
+            }
+            own_methods = {
+                node.name for _, other in trees() for top in other.body
+                if isinstance(top, ast.ClassDef) for node in top.body
+                if isinstance(node, ast.FunctionDef)
+            }
+            for node in ast.walk(tree):
+                if isinstance(node, ast.Call):
+                    if isinstance(node.func, ast.Name):
+                        self.assertIn(node.func.id, names, path)
+                    else:
+                        self.assertIn(node.func.attr, METHODS | own_methods, path)
+
+    def test_barred_words(self):
+        for path, tree in trees():
+            for node in ast.walk(tree):
+                for name in (getattr(node, "id", ""), getattr(node, "arg", ""),
+                             getattr(node, "attr", ""), getattr(node, "name", "")):
+                    if isinstance(name, str):
+                        self.assertIsNone(BARRED.fullmatch(name), (path, name))
+                        self.assertFalse(name.startswith("__") and name not in (
+                            "__init__", "__eq__", "__repr__", "__str__", "__len__", "__bool__",
+                        ), (path, name))

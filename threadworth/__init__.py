@@ -1,0 +1,1 @@
+"""Threadworth: sums of diagrams whose closed pieces have a worth."""
