@@ -84,6 +84,39 @@ def diagram_of_components(above, below, pieces):
     return (len(above), len(below), tuple(sorted(blocks)))
 
 
+def any_diagram(source, n, m):
+    """A diagram with n and m points, drawn from a source of random numbers."""
+    marks = [source.randrange((n + m + 3) // 2) for _ in range(n + m)]
+    seen = {}
+    return diagram_of_row(n, m, tuple(seen.setdefault(mark, len(seen)) for mark in marks))
+
+
+def joined_up(diagrams, joints):
+    """The pieces of named diagrams whose points are joined besides, by pairs."""
+    points = []
+    groups = [list(pair) for pair in joints]
+    for name, diagram in diagrams.items():
+        points += named_points(diagram, name)
+        groups += named_groups(diagram, name)
+    return components(points, groups)
+
+
+def put_by_hand(one, other):
+    """The loops and the diagram of one above the other, by components."""
+    joints = [(("one", "below", k), ("other", "above", k)) for k in range(one[1])]
+    pieces = joined_up({"one": one, "other": other}, joints)
+    above = [("one", "above", k) for k in range(one[0])]
+    below = [("other", "below", k) for k in range(other[1])]
+    made = diagram_of_components(above, below, pieces)
+    shown = set(above + below)
+    return (len([piece for piece in pieces if not piece & shown]), made)
+
+
+def closing_by_hand(diagram):
+    joints = [(("x", "above", k), ("x", "below", k)) for k in range(diagram[0])]
+    return len(joined_up({"x": diagram}, joints))
+
+
 def sizes_up_to(most):
     return [
         (n, m) for n, m in itertools.product(range(9), range(9)) if n + m <= most

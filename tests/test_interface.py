@@ -24,6 +24,17 @@ SIGNATURES = {
         "is_before(one, other)", "counted(family, n, m)", "listed(family, n, m)",
         "index_of(family, diagram)",
     ],
+    "basics": ["unit(n)", "hook(n, i)", "swap(n, i)", "bridge(n, i)", "cut(n, i)"],
+    "texts": ["text_of(diagram)", "read_diagram(text)"],
+    "putting": [
+        "put(one, other)", "beside(one, other)", "over(diagram)",
+        "moved(diagram, above, below)", "lowered(diagram)", "raised(diagram)",
+        "closing(diagram)", "closed_end(diagram, count)",
+    ],
+    "contexts": [
+        "fits(u, v, left, right)", "outside(u, v, left, right)",
+        "worth_in(diagram, u, v, left, right)",
+    ],
 }
 
 
