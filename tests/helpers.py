@@ -2,6 +2,7 @@
 
 import copy
 import itertools
+from fractions import Fraction
 
 
 def all_partitions(size):
@@ -137,3 +138,91 @@ class Unchanged:
     def __exit__(self, kind, value, trace):
         if kind is None:
             self.test.assertEqual(self.things, self.before)
+
+
+def letter_groups(letter, level):
+    """The points (level, strand) and (level + 1, strand) that a letter joins."""
+    kind, i = letter
+    up, down = (level, i), (level + 1, i)
+    if kind == "p":
+        return (i,), [[up], [down]]
+    up_right, down_right = (level, i + 1), (level + 1, i + 1)
+    groups = {
+        "s": [[up, down_right], [up_right, down]],
+        "e": [[up, up_right], [down, down_right]],
+        "b": [[up, up_right, down, down_right]],
+    }
+    return (i, i + 1), groups[kind]
+
+
+def word_by_hand(n, word):
+    """The loops and the diagram of a word, with all of its letters joined at once."""
+    groups = []
+    for level, letter in enumerate(word):
+        changed, joined = letter_groups(letter, level)
+        groups += joined
+        groups += [
+            [(level, k), (level + 1, k)] for k in range(n) if k not in changed
+        ]
+    above = [("above", k) for k in range(n)]
+    below = [("below", k) for k in range(n)]
+    groups += [[("above", k), (0, k)] for k in range(n)]
+    groups += [[("below", k), (len(word), k)] for k in range(n)]
+    points = [(level, k) for level in range(len(word) + 1) for k in range(n)]
+    pieces = components(above + below + points, groups)
+    made = diagram_of_components(above, below, pieces)
+    shown = set(above + below)
+    return (len([piece for piece in pieces if not piece & shown]), made)
+
+
+def family_letters(family, n):
+    kinds = {
+        "threads": "s", "loose": "sp", "pairs": "se", "lonepairs": "sep", "even": "seb",
+        "parts": "sepb",
+    }
+    return [
+        (kind, i) for kind in kinds[family] for i in range(n if kind == "p" else n - 1)
+    ]
+
+
+def any_word(source, family, n, size):
+    """A word of a family, drawn from a source of random numbers."""
+    letters = family_letters(family, n)
+    return tuple(source.choice(letters) for _ in range(size)) if letters else ()
+
+
+def as_value(world, x):
+    """A number of a world as a fraction or as a rest."""
+    return Fraction(*x) if world[0] == 0 else x[0]
+
+
+def as_number(world, worth):
+    """The number of a world for a fraction or an integer."""
+    worth = Fraction(worth)
+    if world[0] == 0:
+        return (worth.numerator, worth.denominator)
+    return (worth.numerator * pow(worth.denominator, -1, world[0]) % world[0], 1)
+
+
+def any_number(source, world):
+    """A number of a world, drawn, and now and then 0."""
+    p = world[0]
+    if p:
+        return (source.randrange(p), 1)
+    return as_number(world, Fraction(source.randrange(-9, 10), source.randrange(1, 8)))
+
+
+def any_terms(source, world, diagrams, many):
+    """Pairs of a drawn diagram, perhaps one several times, and a drawn number."""
+    if not diagrams:
+        return []
+    return [(source.choice(diagrams), any_number(source, world)) for _ in range(many)]
+
+
+def added_terms(world, pairs):
+    """A dict of the numbers of all diagrams of pairs; none of them is 0."""
+    found = {}
+    for diagram, x in pairs:
+        found[diagram] = found.get(diagram, 0) + as_value(world, x)
+    numbers = {diagram: as_number(world, worth) for diagram, worth in found.items()}
+    return {diagram: x for diagram, x in numbers.items() if x != (0, 1)}

@@ -35,6 +35,29 @@ SIGNATURES = {
         "fits(u, v, left, right)", "outside(u, v, left, right)",
         "worth_in(diagram, u, v, left, right)",
     ],
+    "words": [
+        "letters(family, n)", "is_word(n, word)", "check_word(n, word)", "diagram_of(n, word)",
+        "is_word_of(family, n, word)", "word_text(n, word)", "read_word(n, text)",
+    ],
+    "moves": [
+        "rules()", "stepped(n, word, step)", "walked(n, word, chain)", "undone(n, word, chain)",
+        "steps_of(n, word)",
+    ],
+    "wordsof": ["first_word(family, diagram)", "lengths(family, n)"],
+    "sums": [
+        "unit_sum(world, n)", "zero_sum(world, n, m)", "text_of_sum(one)", "read_sum(text)",
+    ],
+}
+CLASSES = {
+    "sums": {
+        "Sum": [
+            "__init__(self, world, n, m, terms)", "terms(self)", "at(self, diagram)",
+            "__add__(self, other)", "__sub__(self, other)", "__neg__(self)",
+            "__mul__(self, other)", "__eq__(self, other)", "__len__(self)", "__bool__(self)",
+            "scaled(self, number)", "beside(self, other)", "over(self)", "worth(self)",
+            "is_in(self, family)",
+        ],
+    },
 }
 
 
@@ -49,3 +72,15 @@ class InterfaceTest(unittest.TestCase):
                     self.assertTrue(inspect.isfunction(function))
                     self.assertEqual(function.__module__, "threadworth." + name)
                     self.assertEqual(function.__name__ + str(inspect.signature(function)), told)
+
+    def test_classes_define_their_methods_themselves(self):
+        for name, classes in CLASSES.items():
+            module = importlib.import_module("threadworth." + name)
+            for title, methods in classes.items():
+                kind = getattr(module, title)
+                self.assertTrue(inspect.isclass(kind))
+                self.assertEqual(kind.__module__, "threadworth." + name)
+                for told in methods:
+                    with self.subTest(kind=title, told=told):
+                        method = vars(kind)[told.partition("(")[0]]
+                        self.assertEqual(method.__name__ + str(inspect.signature(method)), told)

@@ -162,4 +162,54 @@ class LanguageTest(unittest.TestCase):
                         self.assertIsNone(BARRED.fullmatch(name), (path, name))
                         self.assertFalse(name.startswith("__") and name not in (
                             "__init__", "__eq__", "__repr__", "__str__", "__len__", "__bool__",
+                            "__add__", "__sub__", "__neg__", "__mul__",
                         ), (path, name))
+
+    def test_stars_and_generator_expressions(self):
+        # Beside a class with __eq__ the calls any, sum, sorted and the like take
+        # lists, so that there is no use for generator expressions.
+        for path, tree in trees():
+            for node in ast.walk(tree):
+                self.assertNotIsInstance(node, ast.GeneratorExp, path)
+                if isinstance(node, ast.Call):
+                    for argument in node.args:
+                        if isinstance(argument, ast.Starred):
+                            self.assertIsInstance(argument.value, (ast.Name, ast.Attribute), path)
+
+    def test_augmented_assignments_are_of_plain_numbers(self):
+        for path, tree in trees():
+            for node in ast.walk(tree):
+                if isinstance(node, ast.AugAssign):
+                    self.assertIsInstance(node.target, ast.Name, path)
+                    self.assertIsInstance(node.value, ast.Constant, path)
+                    self.assertIsInstance(node.value.value, int, path)
+
+    def test_ranges_and_the_like_are_iterated_at_once(self):
+        takers = {
+            "list", "tuple", "dict", "sorted", "sum", "any", "all", "enumerate", "zip", "len",
+            "reversed", "min", "max",
+        }
+        lazy = {"range", "zip", "enumerate", "reversed", "items", "keys", "values"}
+        for path, tree in trees():
+            allowed = set()
+            for node in ast.walk(tree):
+                if isinstance(node, (ast.For, ast.comprehension)):
+                    allowed.add(node.iter)
+                if isinstance(node, ast.Compare):
+                    allowed.update(node.comparators)
+                if isinstance(node, ast.Call) and getattr(node.func, "id", "") in takers:
+                    allowed.update(node.args)
+            for node in ast.walk(tree):
+                if isinstance(node, ast.Call):
+                    name = getattr(node.func, "id", getattr(node.func, "attr", ""))
+                    if name in lazy:
+                        self.assertIn(node, allowed, (path, node.lineno))
+
+    def test_errors_that_are_caught_and_raised(self):
+        errors = own_names(ast.parse((PACKAGE / "errors.py").read_text(encoding="utf-8")))
+        for path, tree in trees():
+            for node in ast.walk(tree):
+                if isinstance(node, ast.ExceptHandler):
+                    self.assertIn(node.type.id, errors, path)
+                if isinstance(node, ast.Raise):
+                    self.assertIn(node.exc.func.id, errors, path)

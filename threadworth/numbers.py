@@ -5,6 +5,8 @@ from math import gcd
 from threadworth.errors import BadNumber, Malformed, NotNumber, NotWorld
 
 PRIMES = (2, 3, 5, 7, 11, 13, 17, 19, 23, 29, 31)
+ZERO = (0, 1)
+ONE = (1, 1)
 MOST_FIGURES = 60
 MOST_POWER = 200
 CHUNK_FIGURES = 60
@@ -94,7 +96,7 @@ def power(world, x, count):
     check_number(world, x)
     if not 0 <= count <= MOST_POWER:
         raise BadNumber("the count is not from 0 to 200")
-    found = (1, 1)
+    found = ONE
     for _ in range(count):
         found = times(world, found, x)
     return found
@@ -104,6 +106,11 @@ def loop_worth(world):
     """Return the worth of a closed piece."""
     check_world(world)
     return (world[1], 1)
+
+
+def loop_powers(world, most):
+    """Return the list of the worths of 0, 1, 2, .. closed pieces."""
+    return [power(world, loop_worth(world), count) for count in range(most + 1)]
 
 
 def number_text(world, x):
@@ -128,18 +135,39 @@ def _integer_text(k):
 
 
 def read_number(world, text):
-    """Return the number of which this is the text."""
+    """Return the number of which this is the text, unless that is a long one."""
     check_world(world)
-    words = text.split("/")
-    if len(words) > 2 or not all([_is_short(word) for word in words]):
+    if not all([_figure_count(word) <= MOST_FIGURES for word in text.split("/")]):
         raise Malformed(0)
-    x = (int(words[0]), int(words[1]) if len(words) == 2 else 1)
+    return read_any_number(world, text)
+
+
+def _figure_count(word):
+    return len(word.removeprefix("-"))
+
+
+def read_any_number(world, text):
+    """Return the number of which this is the text, whatever its length."""
+    words = text.split("/")
+    if len(words) > 2 or not all([_is_integer(word) for word in words]):
+        raise Malformed(0)
+    x = (_integer_of(words[0]), _integer_of(words[1]) if len(words) == 2 else 1)
     # Only one text is right for each number: not -0, 007, 2/4 or 3/1.
     if not is_number(world, x) or number_text(world, x) != text:
         raise Malformed(0)
     return x
 
 
-def _is_short(word):
+def _is_integer(word):
     figures = word.removeprefix("-")
-    return figures.isascii() and figures.isdigit() and len(figures) <= MOST_FIGURES
+    return figures.isascii() and figures.isdigit()
+
+
+def _integer_of(word):
+    # Like the writing, the reading of long integers goes by chunks.
+    figures = word.removeprefix("-")
+    first = len(figures) % CHUNK_FIGURES
+    found = int("0" + figures[:first])
+    for at in range(first, len(figures), CHUNK_FIGURES):
+        found = found * CHUNK + int(figures[at:at + CHUNK_FIGURES])
+    return -found if word.startswith("-") else found
