@@ -118,6 +118,19 @@ def closing_by_hand(diagram):
     return len(joined_up({"x": diagram}, joints))
 
 
+def context_worth_by_hand(x, u, v, left, right):
+    """All pieces of u, v and x, with the strands beside x and the closing."""
+    n, m, _ = x
+    joints = [(("u", "below", left + k), ("x", "above", k)) for k in range(n)]
+    joints += [(("x", "below", k), ("v", "above", left + k)) for k in range(m)]
+    joints += [(("u", "below", k), ("v", "above", k)) for k in range(left)]
+    joints += [
+        (("u", "below", left + n + k), ("v", "above", left + m + k)) for k in range(right)
+    ]
+    joints += [(("u", "above", k), ("v", "below", k)) for k in range(u[0])]
+    return len(joined_up({"u": u, "v": v, "x": x}, joints))
+
+
 def sizes_up_to(most):
     return [
         (n, m) for n, m in itertools.product(range(9), range(9)) if n + m <= most
@@ -226,3 +239,43 @@ def added_terms(world, pairs):
         found[diagram] = found.get(diagram, 0) + as_value(world, x)
     numbers = {diagram: as_number(world, worth) for diagram, worth in found.items()}
     return {diagram: x for diagram, x in numbers.items() if x != (0, 1)}
+
+
+def reduced_rows(world, rows):
+    """The echelon form of rows of fractions or rests, and its leading columns."""
+    p = world[0]
+    rows = [list(row) for row in rows]
+    leading = []
+    for column in range(len(rows[0]) if rows else 0):
+        done = len(leading)
+        at = next((k for k in range(done, len(rows)) if rows[k][column] != 0), None)
+        if at is None:
+            continue
+        rows[done], rows[at] = rows[at], rows[done]
+        inverse = pow(rows[done][column], -1, p) if p else 1 / Fraction(rows[done][column])
+        rows[done] = [as_rest(p, x * inverse) for x in rows[done]]
+        for k, row in enumerate(rows):
+            if k != done:
+                rows[k] = [as_rest(p, x - row[column] * y) for x, y in zip(row, rows[done])]
+        leading.append(column)
+    return rows[:len(leading)], leading
+
+
+def as_rest(p, worth):
+    return worth % p if p else worth
+
+
+def as_values(world, matrix):
+    return [[as_value(world, x) for x in row] for row in matrix]
+
+
+def as_numbers(world, rows):
+    return [[as_number(world, x) for x in row] for row in rows]
+
+
+def raised_d(world, count):
+    """d multiplied by itself so many times, as an integer; 0 to 0 is 1."""
+    found = 1
+    for _ in range(count):
+        found = found * world[1]
+    return found

@@ -4,7 +4,9 @@ import itertools
 import random
 import unittest
 
-from tests.helpers import any_diagram, closing_by_hand, joined_up, put_by_hand
+from tests.helpers import (
+    any_diagram, closing_by_hand, context_worth_by_hand, put_by_hand,
+)
 from threadworth.basics import hook, swap, unit
 from threadworth.contexts import fits, outside, worth_in
 from threadworth.diagrams import FAMILIES, counted, is_in, listed
@@ -17,19 +19,6 @@ WRONG = (1, 1, ((1,), (0,)))
 
 def singles(n, m):
     return (n, m, tuple((k,) for k in range(n + m)))
-
-
-def worth_by_hand(x, u, v, left, right):
-    """All pieces of u, v and x, with the strands beside x and the closing."""
-    n, m, _ = x
-    joints = [(("u", "below", left + k), ("x", "above", k)) for k in range(n)]
-    joints += [(("x", "below", k), ("v", "above", left + k)) for k in range(m)]
-    joints += [(("u", "below", k), ("v", "above", k)) for k in range(left)]
-    joints += [
-        (("u", "below", left + n + k), ("v", "above", left + m + k)) for k in range(right)
-    ]
-    joints += [(("u", "above", k), ("v", "below", k)) for k in range(u[0])]
-    return len(joined_up({"u": u, "v": v, "x": x}, joints))
 
 
 def contexts(source, many):
@@ -94,7 +83,7 @@ class WorthTest(unittest.TestCase):
         source = random.Random(47)
         for n, m, context in contexts(source, 2):
             x = any_diagram(source, n, m)
-            self.assertEqual(worth_in(x, *context), worth_by_hand(x, *context))
+            self.assertEqual(worth_in(x, *context), context_worth_by_hand(x, *context))
 
     def test_loops_and_closing_of_what_is_made(self):
         for u, v in itertools.product(listed("parts", 2, 3)[::7], listed("parts", 3, 2)[::7]):
@@ -140,7 +129,7 @@ class OutsideTest(unittest.TestCase):
             self.assertEqual(c[:2], (m, n))
             for x in listed("parts", n, m)[::5]:
                 more, made = put_by_hand(x, c)
-                due = worth_by_hand(x, *context)
+                due = context_worth_by_hand(x, *context)
                 self.assertEqual(loops + more + closing_by_hand(made), due)
 
     def test_families(self):

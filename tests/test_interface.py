@@ -47,6 +47,28 @@ SIGNATURES = {
     "sums": [
         "unit_sum(world, n)", "zero_sum(world, n, m)", "text_of_sum(one)", "read_sum(text)",
     ],
+    "linear": [
+        "is_matrix(world, matrix)", "echelon(world, matrix)", "rank(world, matrix)",
+        "kernel(world, matrix)", "solution(world, matrix, right)", "clash(world, matrix, right)",
+        "product(world, one, other)", "determinant(world, matrix)", "poly_determinant(matrix)",
+    ],
+    "tables": [
+        "joined(one, other)", "closings(family, n, m)", "worths(world, family, n, m)",
+        "determinant(family, n, m)", "spoilt(family, n, m)", "spoilt_rests(family, n, m, p)",
+        "is_spoilt(world, family, n, m)",
+    ],
+    "alike": [
+        "worths_of(one, family)", "is_lost(one, family)", "are_alike(one, other, family)",
+        "apart(one, other, family)", "decide(one, other, family)",
+        "is_answer(one, other, family, answer)", "lost_basis(world, family, n, m)",
+        "kept(world, family, n, m)", "plain(one, family)",
+        "worth_in_context(one, u, v, left, right)",
+    ],
+    "colours": [
+        "colour_table(d, diagram)", "exact_table(d, diagram)", "sum_table(one)",
+        "is_without_colours(one)", "matched(one, other)", "is_blind(d, n, m, entries)",
+        "sum_of(d, n, m, entries)", "few_blocks(one)", "seen(d, family, n, m)",
+    ],
 }
 CLASSES = {
     "sums": {

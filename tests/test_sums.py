@@ -6,7 +6,7 @@ import unittest
 
 from tests.helpers import (
     Unchanged, added_terms, any_diagram, any_number, any_terms, as_number, as_value,
-    closing_by_hand, family_diagrams, family_test, put_by_hand, sizes_up_to,
+    closing_by_hand, family_diagrams, family_test, put_by_hand, raised_d, sizes_up_to,
 )
 from threadworth.basics import bridge, cut, hook, swap, unit
 from threadworth.diagrams import FAMILIES, labels
@@ -39,21 +39,13 @@ def any_sum(source, world, n, m, many=4):
     return Sum(world, n, m, any_terms(source, world, diagrams, many))
 
 
-def raised(world, count):
-    """d multiplied by itself so many times, as a fraction or a rest; 0 to 0 is 1."""
-    found = 1
-    for _ in range(count):
-        found = found * world[1]
-    return found
-
-
 def product_by_hand(one, other):
     world = one.world
     pairs = []
     for upper, x in one.terms():
         for lower, y in other.terms():
             loops, made = put_by_hand(upper, lower)
-            worth = as_value(world, x) * as_value(world, y) * raised(world, loops)
+            worth = as_value(world, x) * as_value(world, y) * raised_d(world, loops)
             pairs.append((made, as_number(world, worth)))
     return added_terms(world, pairs)
 
@@ -61,7 +53,7 @@ def product_by_hand(one, other):
 def worth_by_hand(one):
     world = one.world
     return as_number(world, sum(
-        as_value(world, x) * raised(world, closing_by_hand(diagram))
+        as_value(world, x) * raised_d(world, closing_by_hand(diagram))
         for diagram, x in one.terms()
     ))
 
@@ -289,6 +281,11 @@ class ProductTest(unittest.TestCase):
                              ((4, 1), (1, 5)), ((7, 1), (1, 7))):
             with self.assertRaises(BadNumber):
                 zero_sum((0, 2), *upper) * zero_sum((0, 2), *lower)
+        for n, m in ((8, 8), (8, 1), (5, 4), (6, 7)):
+            upper = Sum((0, 2), n, 0, [(singles(n, 0), (1, 1))])
+            lower = Sum((0, 2), 0, m, [(singles(0, m), (1, 1))])
+            with self.assertRaises(BadNumber):
+                upper * lower
         made = zero_sum((0, 2), 5, 0) * zero_sum((0, 2), 0, 3)
         self.assertEqual(made, zero_sum((0, 2), 5, 3))
 
@@ -334,6 +331,10 @@ class BesideTest(unittest.TestCase):
                       zero_sum((0, 2), 5, 0), zero_sum((0, 2), 0, 5)):
             self.assertRaises(BadNumber, one.beside, other)
             self.assertRaises(BadNumber, other.beside, one)
+        for n, m in ((8, 8), (8, 1), (5, 4)):
+            left = Sum((0, 2), n, 0, [(singles(n, 0), (1, 1))])
+            self.assertRaises(BadNumber, left.beside, Sum((0, 2), m, 0, [(singles(m, 0), (1, 1))]))
+            self.assertRaises(BadNumber, left.beside, Sum((0, 2), 0, m, [(singles(0, m), (1, 1))]))
         self.assertEqual(one.beside(zero_sum((0, 2), 4, 0)), zero_sum((0, 2), 6, 2))
 
     def test_over(self):
@@ -362,7 +363,7 @@ class WorthTest(unittest.TestCase):
             for n in range(5):
                 one = any_sum(source, world, n, n, 5)
                 self.assertEqual(one.worth(), worth_by_hand(one))
-                self.assertEqual(unit_sum(world, n).worth(), as_number(world, raised(world, n)))
+                self.assertEqual(unit_sum(world, n).worth(), as_number(world, raised_d(world, n)))
                 self.assertEqual(zero_sum(world, n, n).worth(), (0, 1))
 
     def test_0_raised_to_0_is_1(self):

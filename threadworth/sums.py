@@ -22,7 +22,6 @@ class Sum:
         added = {}
         for diagram, x in terms:
             _check_points(n, m, diagram)
-            check_number(world, x)
             added[diagram] = plus(world, added.get(diagram, ZERO), x)
         ordered = sorted([(labels(diagram), diagram) for diagram in added])
         self.world = world
@@ -144,8 +143,8 @@ def _put_terms(one, other):
 
 def unit_sum(world, n):
     """Return the sum of the unit alone."""
+    # The world comes before the number of points, which the unit checks, too.
     check_world(world)
-    check_sum_size(n, n)
     return Sum(world, n, n, [(unit(n), ONE)])
 
 
