@@ -40,6 +40,108 @@ def trees():
     return [(path, ast.parse(path.read_text(encoding="utf-8"))) for path in package_files()]
 
 
+MODIFIERS = {
+    "append", "clear", "extend", "insert", "pop", "remove", "reverse", "setdefault", "sort",
+    "update", "add", "discard",
+}
+
+
+def is_created(value):
+    """Tell if a value surely is a new list, dict or set, though a class has a __mul__."""
+    if isinstance(value, ast.Call):
+        return getattr(value.func, "id", "") in {"list", "dict", "set", "sorted"}
+    return isinstance(value, (ast.List, ast.Dict, ast.ListComp, ast.DictComp, ast.SetComp))
+
+
+def plain_targets(node):
+    """The pairs of a target and what it is assigned; None if that is part of it."""
+    if isinstance(node, ast.Assign):
+        for target in node.targets:
+            if isinstance(target, (ast.Tuple, ast.List)):
+                yield from [(part, None) for part in target.elts]
+            else:
+                yield target, node.value
+    elif isinstance(node, (ast.For, ast.comprehension)):
+        yield from [(part, None) for part in ast.walk(node.target) if isinstance(part, ast.Name)]
+
+
+def unsure_changes(function):
+    """The rows in which a function changes what it did not surely create itself."""
+    assigned = {}
+    for node in ast.walk(function):
+        for target, value in plain_targets(node):
+            if isinstance(target, ast.Name):
+                assigned.setdefault(target.id, []).append(value is not None and is_created(value))
+
+    def own(thing):
+        return isinstance(thing, ast.Name) and all(assigned.get(thing.id, [False]))
+
+    found = []
+    for node in ast.walk(function):
+        for target, _ in plain_targets(node):
+            if isinstance(target, ast.Subscript) and not own(target.value):
+                found.append(node.lineno)
+            if isinstance(target, ast.Attribute) and function.name != "__init__":
+                found.append(node.lineno)
+        if isinstance(node, ast.Delete):
+            found.append(node.lineno)
+        if isinstance(node, ast.Call) and isinstance(node.func, ast.Attribute):
+            if node.func.attr in MODIFIERS and not own(node.func.value):
+                found.append(node.lineno)
+    return found
+
+
+def functions_by_name(files):
+    """For each file the functions and classes that its names mean, and all methods by name."""
+    told = {path.stem: {} for path, _ in files}
+    methods = {}
+    for path, tree in files:
+        for node in tree.body:
+            if isinstance(node, (ast.FunctionDef, ast.ClassDef)):
+                told[path.stem][node.name] = (path.stem, node)
+            if isinstance(node, ast.ClassDef):
+                for method in node.body:
+                    if isinstance(method, ast.FunctionDef):
+                        methods.setdefault(method.name, []).append((path.stem, method))
+    for path, tree in files:
+        for node in tree.body:
+            if isinstance(node, ast.ImportFrom) and node.module.startswith("threadworth."):
+                source = told[node.module.partition(".")[2]]
+                names = [name.name for name in node.names if name.name in source]
+                told[path.stem].update({name: source[name] for name in names})
+    return told, methods
+
+
+def reached_from_operators(files):
+    """The functions and methods that operators come to call, operators included."""
+    told, methods = functions_by_name(files)
+    waiting = [
+        pair for name, pairs in methods.items() if name.startswith("__")
+        and name not in ("__init__", "__enter__", "__exit__") for pair in pairs
+    ]
+    reached = []
+    while waiting:
+        file, function = waiting.pop()
+        if (file, function) in reached:
+            continue
+        reached.append((file, function))
+        for node in ast.walk(function):
+            if not isinstance(node, ast.Call):
+                continue
+            if isinstance(node.func, ast.Attribute):
+                waiting += methods.get(node.func.attr, [])
+            elif node.func.id in told[file]:
+                home, thing = told[file][node.func.id]
+                if isinstance(thing, ast.FunctionDef):
+                    waiting.append((home, thing))
+                else:
+                    waiting += [
+                        (home, method) for method in thing.body
+                        if getattr(method, "name", "") == "__init__"
+                    ]
+    return reached
+
+
 def own_names(tree):
     """The names that a module binds at its own level."""
     found = set()
@@ -131,9 +233,29 @@ class LanguageTest(unittest.TestCase):
                     self.assertNotIsInstance(node.value, (float, complex), path)
                     if isinstance(node.value, str):
                         self.assertNotIn(chr(37), node.value, path)
+            ranged = self.short_ranges(tree)
+            for node in ast.walk(tree):
                 if isinstance(node, ast.BinOp) and isinstance(node.op, ast.Pow):
-                    self.assertIsInstance(node.right, ast.Constant)
-                    self.assertTrue(0 <= node.right.value <= 64)
+                    if not isinstance(node.right, ast.Constant):
+                        self.assertIn(node, ranged, path)
+                    else:
+                        self.assertTrue(0 <= node.right.value <= 64)
+
+    def short_ranges(self, tree):
+        """The powers by the variable of a list comprehension over a short literal range."""
+        found = []
+        for node in ast.walk(tree):
+            if isinstance(node, ast.ListComp):
+                loop = node.generators[0]
+                bounds = getattr(loop.iter, "args", [])
+                if getattr(getattr(loop.iter, "func", None), "id", "") == "range" and all(
+                    isinstance(bound, ast.Constant) and 0 <= bound.value <= 64 for bound in bounds
+                ):
+                    found += [
+                        part for part in ast.walk(node.elt) if isinstance(part, ast.BinOp)
+                        and getattr(part.right, "id", "") == loop.target.id
+                    ]
+        return found
 
     def test_calls(self):
         for path, tree in trees():
@@ -145,6 +267,12 @@ class LanguageTest(unittest.TestCase):
                 node.name for _, other in trees() for top in other.body
                 if isinstance(top, ast.ClassDef) for node in top.body
                 if isinstance(node, ast.FunctionDef)
+            }
+            # What is taken out of a table of functions, one to a name.
+            names |= {
+                node.targets[0].id for node in ast.walk(tree) if isinstance(node, ast.Assign)
+                and isinstance(node.targets[0], ast.Name) and isinstance(node.value, ast.Subscript)
+                and getattr(node.value.value, "id", "").isupper()
             }
             for node in ast.walk(tree):
                 if isinstance(node, ast.Call):
@@ -162,7 +290,7 @@ class LanguageTest(unittest.TestCase):
                         self.assertIsNone(BARRED.fullmatch(name), (path, name))
                         self.assertFalse(name.startswith("__") and name not in (
                             "__init__", "__eq__", "__repr__", "__str__", "__len__", "__bool__",
-                            "__add__", "__sub__", "__neg__", "__mul__",
+                            "__add__", "__sub__", "__neg__", "__mul__", "__enter__", "__exit__",
                         ), (path, name))
 
     def test_stars_and_generator_expressions(self):
@@ -187,9 +315,12 @@ class LanguageTest(unittest.TestCase):
     def test_ranges_and_the_like_are_iterated_at_once(self):
         takers = {
             "list", "tuple", "dict", "sorted", "sum", "any", "all", "enumerate", "zip", "len",
-            "reversed", "min", "max",
+            "reversed", "min", "max", "permutations", "combinations",
         }
-        lazy = {"range", "zip", "enumerate", "reversed", "items", "keys", "values"}
+        lazy = {
+            "range", "zip", "enumerate", "reversed", "items", "keys", "values", "permutations",
+            "combinations",
+        }
         for path, tree in trees():
             allowed = set()
             for node in ast.walk(tree):
@@ -213,3 +344,49 @@ class LanguageTest(unittest.TestCase):
                     self.assertIn(node.type.id, errors, path)
                 if isinstance(node, ast.Raise):
                     self.assertIn(node.exc.func.id, errors, path)
+
+    def test_operators_change_only_what_they_create(self):
+        files = trees()
+        reached = reached_from_operators(files)
+        names = [function.name for _, function in reached]
+        for name in ("__add__", "__mul__", "__neg__", "__init__", "labels", "put", "piece_marks",
+                     "from_labels", "plus", "terms"):
+            self.assertIn(name, names)
+        for file, function in reached:
+            self.assertEqual(unsure_changes(function), [], (file, function.name))
+
+    def test_what_counts_as_created(self):
+        for text, rows in (
+            ("marks = [0] * n\nmarks[0] = 1", [3]), ("marks = [0 for _ in n]\nmarks[0] = 1", []),
+            ("marks = list(n)\nmarks[0] = 1", []), ("marks = {}\nmarks[0] = 1", []),
+            ("n[0] = 1", [2]), ("n.append(1)", [2]), ("n.x = 1", [2]), ("del n[0]", [2]),
+            ("found = []\nfound.append(1)", []), ("found = []\nfound = n\nfound.pop()", [4]),
+            ("found = []\nfor found in n:\n    found.pop()", [4]),
+            ("found, rest = n\nfound.append(1)", [3]), ("a = b = n\nb[0] = 1", [3]),
+        ):
+            lines = "".join("    " + row + "\n" for row in text.split("\n"))
+            function = ast.parse("def some(n):\n" + lines).body[0]
+            self.assertEqual(unsure_changes(function), rows, text)
+
+    def test_the_rows_of_exit(self):
+        # Neither a test of an attribute nor a call may stand there.
+        for path, tree in trees():
+            for node in ast.walk(tree):
+                if isinstance(node, ast.FunctionDef) and node.name == "__exit__":
+                    for part in ast.walk(node):
+                        self.assertNotIsInstance(part, (ast.Call, ast.BinOp, ast.BoolOp), path)
+                        if isinstance(part, ast.If):
+                            self.assertEqual(ast.unparse(part.test), "kind is None")
+
+    def test_some_names_are_not_used(self):
+        barred = {
+            "_cold", "_tuplegetter", "_outside", "_record", "_written_out", "_member_names",
+        }
+        starts = (
+            "_wall", "_pe_", "_dcw_", "_enum_", "_cm_", "_twin_re_", "_lay_", "_law_", "_stub_",
+            "_sre",
+        )
+        for path, tree in trees():
+            for name in own_names(tree):
+                self.assertNotIn(name.rstrip("_0123456789"), barred, path)
+                self.assertFalse(name.startswith(starts), (path, name))

@@ -48,7 +48,9 @@ def labels(diagram):
     """Return the number of the block of each point."""
     check_diagram(diagram)
     n, m, blocks = diagram
-    marks = [0] * (n + m)
+    # The operators of sums come here, and may change the items of a list only
+    # where it surely is a new one; a product could be anything.
+    marks = [0 for _ in range(n + m)]
     for k, block in enumerate(blocks):
         for point in block:
             marks[point] = k
