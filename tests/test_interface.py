@@ -69,6 +69,25 @@ SIGNATURES = {
         "is_without_colours(one)", "matched(one, other)", "is_blind(d, n, m, entries)",
         "sum_of(d, n, m, entries)", "few_blocks(one)", "seen(d, family, n, m)",
     ],
+    "falling": [
+        "arrangement(diagram)", "thread(places)", "sign(places)", "longest_fall(places)",
+        "is_kept(world, places)", "kept(world, n)", "kept_number(world, n)",
+        "exchanges(places, indexes)", "lost_exchange(world, places, indexes)", "rest_of(one)",
+        "are_alike_threads(one, other)",
+    ],
+    "through": [
+        "through(diagram)", "upper(diagram)", "middle(diagram)", "lower(diagram)",
+        "by_through(family, n, m)", "led(family, one, other)",
+    ],
+    "powers": [
+        "power(diagram, count)", "start_and_round(diagram)", "is_square(diagram)",
+        "squares(family, n)",
+    ],
+    "growing": [
+        "grown(one)", "shrunk(one)", "hooked(one, other)", "average(world, n)",
+        "alternating(world, n)", "average_worth(world, n)", "alternating_worth(world, n)",
+        "averaged(one)", "alternated(one)", "is_own_square(one)", "hook_square(world, n, i)",
+    ],
 }
 CLASSES = {
     "sums": {
