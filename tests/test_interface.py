@@ -88,6 +88,15 @@ SIGNATURES = {
         "alternating(world, n)", "average_worth(world, n)", "alternating_worth(world, n)",
         "averaged(one)", "alternated(one)", "is_own_square(one)", "hook_square(world, n, i)",
     ],
+    "certificates": [
+        "worths_told(world, family, n, m, terms)", "is_told_lost(world, family, n, m, terms)",
+        "shown(world, family, n, m, terms, others, answer)", "has_no_colours(d, n, m, terms)",
+        "diagram_told(n, word)", "is_chain(n, one, other, chain, taken)",
+        "is_told_solution(world, matrix, right, vector)",
+        "is_told_clash(world, matrix, right, numbers)", "is_told_determinant(matrix, poly)",
+    ],
+    "lines": ["words_of(line)", "is_name(word)", "number_in(word)"],
+    "journal": ["attempt(journal, lines, *, keep=False)", "resume(text)"],
 }
 CLASSES = {
     "sums": {
@@ -97,6 +106,18 @@ CLASSES = {
             "__mul__(self, other)", "__eq__(self, other)", "__len__(self)", "__bool__(self)",
             "scaled(self, number)", "beside(self, other)", "over(self)", "worth(self)",
             "is_in(self, family)",
+        ],
+    },
+    "desk": {
+        "Desk": [
+            "__init__(self)", "answer(self, line)", "answers(self, lines)", "names(self)",
+            "thing(self, name)",
+        ],
+    },
+    "journal": {
+        "Journal": [
+            "__init__(self)", "answer(self, line)", "record(self)", "lines(self)", "keep(self)",
+            "__enter__(self)", "__exit__(self, kind, value, trace)",
         ],
     },
 }

@@ -378,6 +378,11 @@ class LanguageTest(unittest.TestCase):
                         if isinstance(part, ast.If):
                             self.assertEqual(ast.unparse(part.test), "kind is None")
 
+    def test_the_checker_imports_the_errors_alone(self):
+        tree = ast.parse((PACKAGE / "certificates.py").read_text(encoding="utf-8"))
+        modules = [node.module for node in tree.body if isinstance(node, ast.ImportFrom)]
+        self.assertEqual(modules, ["threadworth.errors"])
+
     def test_some_names_are_not_used(self):
         barred = {
             "_cold", "_tuplegetter", "_outside", "_record", "_written_out", "_member_names",
