@@ -5,11 +5,11 @@ import random
 import unittest
 
 from tests.helpers import (
-    Unchanged, added_terms, any_diagram, any_number, any_terms, any_word, as_number, as_rest,
+    Unchanged, any_diagram, any_number, any_terms, any_word, as_number, as_rest,
     as_value, closing_by_hand, family_diagrams, put_by_hand, raised_d, word_by_hand,
 )
 from tests.test_moves import RULES, all_steps, any_chain, shifted, step_by_hand
-from threadworth.alike import are_alike, decide, is_answer, is_lost, lost_basis, worths_of
+from threadworth.alike import decide, is_answer, is_lost, lost_basis, worths_of
 from threadworth.basics import bridge, cut, hook, swap, unit
 from threadworth.certificates import (
     diagram_told, has_no_colours, is_chain, is_told_clash, is_told_determinant, is_told_lost,
@@ -127,6 +127,17 @@ class WorthsTest(unittest.TestCase):
             found = worths_told((0, 2), family, n, m, pairs)
             self.assertEqual(found, worths_of(Sum((0, 2), n, m, pairs), family))
             self.assertEqual(len(found), counted(family, n, m))
+
+    def test_all_worlds(self):
+        pairs = [(unit(1), ONE), (cut(1, 0), ONE)]
+        for p in range(-3, 70):
+            for d in range(-22, 70):
+                prime = 1 < p <= 31 and all(p % k for k in range(2, p))
+                if (p == 0 and -20 <= d <= 20) or (prime and 0 <= d < p):
+                    due = [as_number((p, d), as_rest(p, k)) for k in (2 * d, d + d * d)]
+                    self.assertEqual(worths_told((p, d), "loose", 1, 1, pairs), due)
+                else:
+                    self.assertRaises(NotWorld, worths_told, (p, d), "loose", 1, 1, pairs)
 
     def test_large_numbers_and_no_terms(self):
         big = 10 ** 1500
@@ -300,6 +311,15 @@ class ColoursTest(unittest.TestCase):
                         self.assertIs(is_told_lost((0, d), family, n, m, pairs), due)
         self.assertGreater(min(seen.values()), 100)
 
+    def test_entries_that_are_0_in_all_alone(self):
+        # With these numbers all entries together have the sum 0.
+        for d in range(1, 5):
+            for n, m in ((1, 1), (2, 0), (0, 2), (2, 1), (1, 3)):
+                diagrams = family_diagrams("parts", n, m)
+                for one, other in itertools.combinations(diagrams, 2):
+                    pairs = [(one, (d ** len(other[2]), 1)), (other, (-d ** len(one[2]), 1))]
+                    self.assertIs(has_no_colours(d, n, m, pairs), d == 1)
+
     def test_4096_entries_and_more(self):
         for d, points in ((1, 8), (2, 8), (3, 7), (4, 6)):
             for n in (0, 3, points):
@@ -460,7 +480,9 @@ class ChainsTest(unittest.TestCase):
             # At the very end letters can be put, too, but not beyond.
             step, back = ("back", 0, size, 0), ("rule", 0, size, 0)
             self.assertIs(is_chain(2, start, start, [step, back], 0), due)
-            self.assertIs(is_chain(2, start, made, [("back", 0, size + 1, 0)], 0), False)
+            for at in (size + 1, size + 2, HUGE, -1, -2, -size, -size - 1, -HUGE):
+                for end in (made, start + made[:2], start[:-1] + made[:2] + start[-1:]):
+                    self.assertIs(is_chain(2, start, end, [("back", 0, at, 0)], 0), False)
 
 
 class MatricesTest(unittest.TestCase):
@@ -629,6 +651,16 @@ class DeterminantTest(unittest.TestCase):
         ):
             self.assertIs(is_told_determinant(matrix, poly), due, (matrix, poly))
 
+    def test_signs_of_exchanged_rows(self):
+        for size in range(6):
+            for places in itertools.permutations(range(size)):
+                matrix = [[(1,) if k == place else () for k in range(size)] for place in places]
+                due = 1
+                for low, high in itertools.combinations(places, 2):
+                    due = -due if low > high else due
+                self.assertIs(is_told_determinant(matrix, (due,)), True)
+                self.assertIs(is_told_determinant(matrix, (-due,)), False)
+
     def test_other_lengths_and_30_lists(self):
         one = (1,)
         for matrix in ([[one, one]], [[one], [one]], [[], []], [[]], [[one, one], [one]],
@@ -662,6 +694,13 @@ class DeterminantTest(unittest.TestCase):
         self.assertIs(is_told_determinant([[half, (1,)], [(0, 1), ()]], (0, -1)), True)
         more = (0,) * 51 + (1,)
         self.assertRaises(TooLarge, is_told_determinant, [[half, (1,)], [(0, 1), more]], (0, -1))
+        # A row of 0 alone has the degree 0.
+        for k, error in ((100, None), (101, TooLarge)):
+            rows = [[(), ()], [(0,) * k + (1,), (1,)]]
+            if error:
+                self.assertRaises(error, is_told_determinant, rows, ())
+            else:
+                self.assertIs(is_told_determinant(rows, ()), True)
         # Of each row the greatest degree counts.
         self.assertRaises(
             TooLarge, is_told_determinant, [[half, more], [(1,), half]], (0, -1)

@@ -4,7 +4,8 @@ import itertools
 import random
 import unittest
 
-from tests.helpers import any_number, any_terms, any_word, as_value, context_worth_by_hand
+from tests.helpers import any_number, any_word, as_value, context_worth_by_hand
+from tests.test_alike import any_context, any_sum
 from threadworth.alike import (
     apart, are_alike, decide, is_answer, is_lost, lost_basis, plain, worth_in_context, worths_of,
 )
@@ -34,21 +35,6 @@ from threadworth.wordsof import first_word, lengths
 
 WORLDS = ((0, 1), (0, 2), (0, 3), (0, 0), (0, -1), (0, -2), (2, 1), (3, 0), (3, 2), (5, 4))
 SIZES = ((1, 1), (2, 1), (0, 2), (2, 2), (1, 3))
-
-
-def any_sum(source, world, family, n, m, many=4):
-    return Sum(world, n, m, any_terms(source, world, listed(family, n, m), many))
-
-
-def any_context(source, family, n, m):
-    for _ in range(20):
-        left, right, k = source.randrange(2), source.randrange(2), source.randrange(4)
-        above, below = left + n + right, left + m + right
-        if 0 < counted(family, k, above) <= 250 and 0 < counted(family, below, k) <= 250:
-            u = source.choice(listed(family, k, above))
-            v = source.choice(listed(family, below, k))
-            return (u, v, left, right)
-    return None
 
 
 def cases(source):

@@ -186,7 +186,7 @@ def _parts_of(words):
     form = FORMS.get(words[0], "")
     size = form.find("T")
     told = words[1:]
-    if size >= 0 and len(told) >= size:
+    if size >= 0:
         told = told[:size] + [" ".join(told[size:])]
     if form == "" or len(told) != len(form):
         return None

@@ -2,13 +2,12 @@
 
 from itertools import permutations
 
-from threadworth.diagrams import check_diagram, is_in
+from threadworth.diagrams import is_in
 from threadworth.errors import BadNumber, NotDiagram
 from threadworth.numbers import ZERO, check_world, minus, number, times
 from threadworth.sums import Sum
 
 MOST_PLACES = 5
-MOST_PLACES_IN_SUM = 4
 MOST_COUNTED = 12
 
 
@@ -32,7 +31,6 @@ def _longest_allowed(world):
 
 def arrangement(diagram):
     """Return the places below to which the points above are joined."""
-    check_diagram(diagram)
     if not is_in("threads", diagram):
         raise BadNumber("the diagram is no thread")
     # The blocks stand in the order of their points above.
@@ -173,20 +171,17 @@ def lost_exchange(world, places, indexes):
     if len(indexes) != _longest_allowed(world) + 1:
         raise BadNumber("there are not as many indexes as a sum of exchanges needs")
     n = len(places)
-    if n > MOST_PLACES_IN_SUM:
-        raise BadNumber("the arrangement has more than 4 places")
-    found = _exchanges(places, indexes)
-    return Sum(world, n, n, [(_thread(other), _factor(world, other)) for other in found])
-
-
-def _check_threads(one):
-    if one.world[0] != 0 or one.n != one.m or not one.is_in("threads"):
-        raise BadNumber("this is no sum of threads with fractions")
+    terms = [
+        (_thread(other), _factor(world, other)) for other in _exchanges(places, indexes)
+    ]
+    # A sum has no room for more than 4 places.
+    return Sum(world, n, n, terms)
 
 
 def rest_of(one):
     """Return the sum of kept threads that is alike to a sum of threads."""
-    _check_threads(one)
+    if one.world[0] != 0 or one.n != one.m or not one.is_in("threads"):
+        raise BadNumber("this is no sum of threads with fractions")
     size = _longest_allowed(one.world) + 1
     numbers = {arrangement(diagram): x for diagram, x in one.terms()}
     # What takes the place of an arrangement has fewer pairs that descend.
@@ -219,8 +214,6 @@ def _with_exchanges(world, numbers, places, fall):
 
 def are_alike_threads(one, other):
     """Tell if two sums of threads are alike."""
-    _check_threads(one)
-    _check_threads(other)
     if one.world != other.world or one.n != other.n:
         raise BadNumber("the worlds or the numbers of points differ")
     return rest_of(one) == rest_of(other)

@@ -8,7 +8,7 @@ from threadworth.errors import BadNumber, NoAnswer
 from threadworth.falling import arrangement, sign
 from threadworth.numbers import ONE, check_world, loop_powers, number, times
 from threadworth.putting import closed_end
-from threadworth.sums import Sum, check_same_world, check_sum_size, unit_sum
+from threadworth.sums import Sum, unit_sum
 
 MOST_STRANDS = 4
 MOST_COUNTED = 20
@@ -33,12 +33,8 @@ def shrunk(one):
 
 def hooked(one, other):
     """Return the product of two grown sums with a hook between them."""
-    check_same_world(one, other)
     n = one.m
-    if n != other.n or n == 0:
-        raise BadNumber("the points do not fit")
-    # The hook is for up to 6 strands, but a sum is for fewer.
-    check_sum_size(n + 1, n + 1)
+    # A hook that there is not, and sums that do not fit, are refused where they are made.
     between = Sum(one.world, n + 1, n + 1, [(hook(n + 1, n - 1), ONE)])
     return grown(one) * between * grown(other)
 

@@ -43,12 +43,12 @@ class Journal:
     def keep(self):
         """Keep what the open trial has done and does."""
         if self._failed is None:
-            raise OpenTrial("no trial is open")
+            raise OpenTrial("there is no trial to be kept")
         self._done = self._now
 
     def __enter__(self):
         if self._failed is not None:
-            raise OpenTrial("a trial is open")
+            raise OpenTrial("another trial goes on")
         desk, pairs = self._now
         self._failed = self._now
         self._done = self._now

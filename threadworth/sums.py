@@ -52,7 +52,7 @@ class Sum:
         return Sum(self.world, self.n, self.m, turned)
 
     def __mul__(self, other):
-        check_same_world(self, other)
+        _check_same_world(self, other)
         if self.m != other.n:
             raise BadNumber("the points do not fit")
         check_sum_size(self.n, other.m)
@@ -78,7 +78,7 @@ class Sum:
 
     def beside(self, other):
         """Return the sum with another one to the right of it."""
-        check_same_world(self, other)
+        _check_same_world(self, other)
         check_sum_size(self.n + other.n, self.m + other.m)
         products = [
             (beside(one, two), times(self.world, x, y))
@@ -118,13 +118,13 @@ def _check_points(n, m, diagram):
         raise BadNumber("the diagram has other points than the sum")
 
 
-def check_same_world(one, other):
+def _check_same_world(one, other):
     if one.world != other.world:
         raise BadNumber("the worlds differ")
 
 
 def _check_same_points(one, other):
-    check_same_world(one, other)
+    _check_same_world(one, other)
     if one.n != other.n or one.m != other.m:
         raise BadNumber("the points differ")
 
